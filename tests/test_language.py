@@ -1,4 +1,8 @@
-"""The package keeps to the part of Python that it is to be written in (L1 to L28)."""
+"""The package keeps to the part of Python that it is to be written in, as far as is checked here.
+
+Not checked: how dicts and lists of a file's top are used (L15), which errors are taken where (L19), what a loop
+changes of what it walks (L23), sets within expressions (L24), and L13, L18 and L28 but for single points of them.
+"""
 
 import ast
 import builtins
