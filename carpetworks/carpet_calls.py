@@ -1,7 +1,8 @@
-"""The calls on the carpet: its beginning, its pattern and width, and its rolls."""
+"""The calls on the carpet: its beginning, its pattern and width, its rolls, and how many there are of all."""
 
 from carpetworks.keeping import NOT_AS_TOLD
 from carpetworks.keeping import add_one
+from carpetworks.keeping import goes_into
 from carpetworks.keeping import remove_one
 from carpetworks.keeping import within
 from carpetworks.state import Roll
@@ -38,7 +39,7 @@ def set_drop(state, given):
 
 def set_pattern(state, given):
     repeat = given[0]
-    if repeat == 0 or state.repeat % repeat != 0:
+    if not goes_into(repeat, state.repeat):
         return [NOT_AS_TOLD]
     before = state.repeat
     state.repeat = repeat
@@ -57,6 +58,11 @@ def remove_roll(state, given):
     return remove_one(state.rolls, given[0])
 
 
+def tell_state(state, given):
+    rows = [state.dyes, state.tints, state.rooms, state.rolls]
+    return [state.repeat, state.drop, state.wide] + [len(row) for row in rows]
+
+
 CARPET_CALLS = {
     0: begin,
     13: set_wide,
@@ -64,4 +70,5 @@ CARPET_CALLS = {
     15: set_pattern,
     16: add_roll,
     17: remove_roll,
+    46: tell_state,
 }

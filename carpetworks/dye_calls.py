@@ -6,10 +6,13 @@ from carpetworks.colours import cheapest
 from carpetworks.colours import light_told
 from carpetworks.colours import looks
 from carpetworks.colours import share_cost
+from carpetworks.costs import centimetre_cost
 from carpetworks.keeping import CANNOT
 from carpetworks.keeping import NONE_SUCH
 from carpetworks.keeping import NOT_AS_TOLD
 from carpetworks.keeping import add_one
+from carpetworks.keeping import all_but
+from carpetworks.keeping import counted
 from carpetworks.keeping import remove_one
 from carpetworks.keeping import within
 from carpetworks.ratios import lowest
@@ -34,14 +37,6 @@ def is_colour(colour):
 
 def dye_parts(state):
     return [dye.parts for dye in state.dyes]
-
-
-def all_but(row, number):
-    return row[:number] + row[number + 1:]
-
-
-def counted(row):
-    return [len(row)] + row
 
 
 def add_dye(state, given):
@@ -140,6 +135,25 @@ def tell_lacking(state, given):
     return counted([number for number, tint in enumerate(state.tints) if not can_make(dyes, tint.colour)])
 
 
+def tell_centimetre(state, given):
+    cost = centimetre_cost(state.dyes, state.tints)
+    return [CANNOT] if cost is None else [0] + cost
+
+
+def look_at_dye(state, given):
+    if given[0] >= len(state.dyes):
+        return [NONE_SUCH]
+    dye = state.dyes[given[0]]
+    return [dye.price] + list(dye.parts)
+
+
+def look_at_tint(state, given):
+    if given[0] >= len(state.tints):
+        return [NONE_SUCH]
+    tint = state.tints[given[0]]
+    return [tint.grams] + list(tint.colour)
+
+
 DYE_CALLS = {
     1: add_dye,
     2: remove_dye,
@@ -153,4 +167,7 @@ DYE_CALLS = {
     21: tell_needed,
     22: tell_idle,
     23: tell_lacking,
+    24: tell_centimetre,
+    42: look_at_dye,
+    43: look_at_tint,
 }

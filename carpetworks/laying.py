@@ -29,21 +29,56 @@ def is_clear(room, first, wide):
     return True
 
 
-# How many strips the room takes with its best first strip, or None where no first strip is clear.
-def strip_count(room, wide):
-    clear = [first for first in range(1, wide + 1) if is_clear(room, first, wide)]
-    return min([len(seams_of(room, first, wide)) + 1 for first in clear], default=None)
+def clear_firsts(room, wide):
+    return [first for first in range(1, wide + 1) if is_clear(room, first, wide)]
+
+
+def strip_count(room, first, wide):
+    return len(seams_of(room, first, wide)) + 1
+
+
+def narrowest(room, first, wide):
+    seams = seams_of(room, first, wide)
+    if len(seams) == 0:
+        return room.across
+    return min(first, room.across - seams[-1])
+
+
+# The width of the best first strip, or None where none is clear.
+def best_first(room, wide):
+    return max(
+        clear_firsts(room, wide),
+        key=lambda first: (-strip_count(room, first, wide), narrowest(room, first, wide), first),
+        default=None,
+    )
+
+
+# The room's strips, in order, or None where no first strip is clear.
+def room_strips(room, carpet):
+    first = best_first(room, carpet.wide)
+    if first is None:
+        return None
+    count = strip_count(room, first, carpet.wide)
+    return [Strip(room.along, number * carpet.drop % carpet.repeat) for number in range(count)]
 
 
 # All strips of the rooms, in order, or None where they can't be laid.
 def all_strips(rooms, carpet):
     strips = []
     for room in rooms:
-        count = strip_count(room, carpet.wide)
-        if count is None:
+        more = room_strips(room, carpet)
+        if more is None:
             return None
-        strips.extend([Strip(room.along, number * carpet.drop % carpet.repeat) for number in range(count)])
+        strips.extend(more)
     return strips if len(strips) <= MOST_STRIPS else None
+
+
+# How many strips, then of each how long it is and where it begins in the pattern.
+def strip_rows(strips):
+    told = [len(strips)]
+    for strip in strips:
+        told.extend([strip.length, strip.place])
+    return told
 
 
 # How much all needs at the least, and the least set of rooms turned by which it does, or None.

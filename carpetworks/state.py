@@ -44,3 +44,26 @@ class State:
         self.tints = []
         self.rooms = []
         self.rolls = []
+
+
+# Another state that can be changed by itself.
+def copied(state):
+    other = State()
+    other.begun = state.begun
+    other.start(state.repeat, state.drop, state.wide)
+    other.dyes.extend(state.dyes)
+    other.tints.extend(state.tints)
+    other.rooms.extend(state.rooms)
+    other.rolls.extend(state.rolls)
+    return other
+
+
+# All that it holds as plain values, so that two states can be compared.
+def contents(state):
+    return (
+        [state.repeat, state.drop, state.wide],
+        [(dye.parts, dye.price) for dye in state.dyes],
+        [(tint.colour, tint.grams) for tint in state.tints],
+        [(room.across, room.along, room.doors, room.sides) for room in state.rooms],
+        [(roll.length, roll.begins) for roll in state.rolls],
+    )

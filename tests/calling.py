@@ -50,16 +50,30 @@ def parted(told):
 
 def run(*calls):
     handed = written(calls)
+    if len(calls) > 120 or len(handed) > 1200:
+        raise AssertionError(f"more than may be handed in: {len(calls)} calls, {len(handed)} numbers")
     kept = list(handed)
     told = answers(handed)
     if handed != kept:
         raise AssertionError("what was handed in is changed")
+    if answers(handed) != told:
+        raise AssertionError("a second time the answers are others")
     if type(told) is not list or any(type(number) is not int for number in told):
         raise AssertionError(f"not a list of whole numbers: {told}")
     found = parted(told)
     if len(found) != len(calls):
         raise AssertionError(f"{len(calls)} calls, {len(found)} answers")
     return found
+
+
+def room_calls(rooms):
+    """The calls that tell the rooms; each is (across, along, doors, sides)."""
+    calls = []
+    for number, (across, along, doors, sides) in enumerate(rooms):
+        calls.append(("room", across, along))
+        calls += [("door", number, low, high) for low, high in doors]
+        calls += [("side", number, low, high) for low, high in sides]
+    return calls
 
 
 def begun(*calls):

@@ -1,8 +1,6 @@
 import unittest
 
 from calling import TOP, begun, run
-from carpetworks.state import State
-from carpetworks.works import answer_call
 
 
 class Drop(unittest.TestCase):
@@ -32,17 +30,21 @@ class Pattern(unittest.TestCase):
         self.assertEqual(run(("begin", 12, 11, 9), ("pattern", 5), ("drop", 2)), [[0], [-22], [11]])
 
     def test_what_is_left_of_where_rolls_begin(self):
-        state = State()
-        for number, given in ((0, [12, 3, 10]), (16, [100, 11]), (16, [200, 4]), (16, [300, 3]), (15, [5]), (15, [4])):
-            answer_call(state, number, given)
-        self.assertEqual([(roll.length, roll.begins) for roll in state.rolls], [(100, 3), (200, 0), (300, 3)])
+        # By 12 the roll from 8 on loses 4 ahead of place 0; by 4 none; by 3 it begins at 2 and loses 1.
+        strip = (("room", 9, 6), ("roll", 10, 8))
+        self.assertEqual(begun(*strip, ("spare",), ("pattern", 4), ("spare",))[2:], [[1, 0], [12], [1, 4]])
+        self.assertEqual(begun(*strip, ("pattern", 3), ("spare",), ("back",), ("spare",))[2:],
+                         [[12], [1, 3], [2], [1, 0]])
+        told = begun(("roll", 6, 11), ("roll", 7, 7), ("roll", 8, 4), ("pattern", 4), ("room", 9, 6), ("room", 9, 7),
+                     ("room", 9, 8), ("fits",))
+        self.assertEqual(told[-1], [-33])
+        told = begun(("roll", 7, 11), ("roll", 8, 7), ("roll", 8, 4), ("pattern", 4), ("room", 9, 6), ("room", 9, 7),
+                     ("room", 9, 8), ("fits",))
+        self.assertEqual(told[-1], [3, 0, 1, 2])
 
     def test_a_refused_pattern_leaves_rolls(self):
-        state = State()
-        for number, given in ((0, [12, 3, 10]), (16, [100, 11]), (15, [5]), (15, [0])):
-            answer_call(state, number, given)
-        self.assertEqual([(roll.length, roll.begins) for roll in state.rolls], [(100, 11)])
-        self.assertEqual((state.repeat, state.drop), (12, 3))
+        told = begun(("roll", 100, 2), ("room", 9, 6), ("pattern", 5), ("pattern", 0), ("spare",), ("state",))
+        self.assertEqual(told[2:], [[-22], [-22], [1, 84], [12, 3, 10, 0, 0, 1, 1]])
 
 
 class Rolls(unittest.TestCase):
@@ -67,10 +69,10 @@ class Rolls(unittest.TestCase):
         self.assertEqual(told, [[-2], [0], [1], [-2], [-2], [1], [-2], [0], [-2]])
 
     def test_those_behind_one_that_is_gone(self):
-        state = State()
-        for number, given in ((0, [12, 3, 10]), (16, [100, 1]), (16, [200, 2]), (16, [300, 3]), (17, [1])):
-            answer_call(state, number, given)
-        self.assertEqual([(roll.length, roll.begins) for roll in state.rolls], [(100, 1), (300, 3)])
+        told = begun(("roll", 10, 0), ("roll", 20, 1), ("roll", 30, 2), ("unroll", 1), ("room", 9, 5), ("spare",))
+        self.assertEqual(told[-1], [2, 5, 30])
+        told = begun(("roll", 4, 0), ("roll", 20, 1), ("roll", 30, 2), ("unroll", 1), ("room", 9, 5), ("spare",))
+        self.assertEqual(told[-1], [2, 4, 15])
 
 
 if __name__ == "__main__":

@@ -1,85 +1,11 @@
 import itertools
 import random
 import unittest
-from fractions import Fraction
 
 from calling import TOP, begun, last
+from reckoning import expected_idle, expected_least, expected_mixes, expected_needed, expected_shows
 
 QUESTIONS = ("makes", "least", "shows", "needed")
-
-
-def solved(columns, colour):
-    """The only amounts of the columns that make the colour, or None; by elimination."""
-    rows = [[Fraction(column[part]) for column in columns] + [Fraction(colour[part])] for part in range(3)]
-    done = 0
-    for column in range(len(columns)):
-        pivot = next((row for row in range(done, 3) if rows[row][column] != 0), None)
-        if pivot is None:
-            return None
-        rows[done], rows[pivot] = rows[pivot], rows[done]
-        rows[done] = [value / rows[done][column] for value in rows[done]]
-        for row in range(3):
-            if row != done:
-                rows[row] = [a - rows[row][column] * b for a, b in zip(rows[row], rows[done])]
-        done += 1
-    if any(rows[row][-1] != 0 for row in range(done, 3)):
-        return None
-    return [rows[row][-1] for row in range(done)]
-
-
-def expected_mixes(dyes, colour):
-    found = []
-    for size in range(4):
-        for members in itertools.combinations(range(len(dyes)), size):
-            amounts = solved([dyes[number][:3] for number in members], colour)
-            if amounts is not None and all(amount >= 0 for amount in amounts):
-                cost = sum((dyes[number][3] * amount for number, amount in zip(members, amounts)), Fraction(0))
-                found.append((cost, members, amounts))
-    return found
-
-
-def expected_least(dyes, colour):
-    mixes = expected_mixes(dyes, colour)
-    if not mixes:
-        return [-33]
-    cost, members, amounts = min(mixes, key=lambda mix: mix[0])
-    told = [len(members), cost.numerator, cost.denominator]
-    for number, amount in zip(members, amounts):
-        told += [number, amount.numerator, amount.denominator]
-    return told
-
-
-def cross(a, b):
-    return (a[1] * b[2] - a[2] * b[1], a[2] * b[0] - a[0] * b[2], a[0] * b[1] - a[1] * b[0])
-
-
-def dot(a, b):
-    return sum(x * y for x, y in zip(a, b))
-
-
-def expected_shows(dyes, colour):
-    parts = ((1, 0, 0), (0, 1, 0), (0, 0, 1))
-    dyes = [dye[:3] for dye in dyes]
-    asked = [cross(a, b) for a in dyes for b in dyes] + [cross(a, b) for a in dyes for b in parts] + list(parts)
-    for light in asked:
-        for sign in (1, -1):
-            strengths = tuple(sign * value for value in light)
-            if dot(strengths, colour) > 0 and all(dot(strengths, dye) <= 0 for dye in dyes):
-                return [0, *strengths, dot(strengths, colour)]
-    return [-33]
-
-
-def expected_needed(dyes, colour):
-    if not expected_mixes(dyes, colour):
-        return [-33]
-    found = [number for number in range(len(dyes)) if not expected_mixes(dyes[:number] + dyes[number + 1:], colour)]
-    return [len(found)] + found
-
-
-def expected_idle(dyes):
-    found = [number for number in range(len(dyes))
-             if expected_mixes(dyes[:number] + dyes[number + 1:], dyes[number][:3])]
-    return [len(found)] + found
 
 
 def laid_out(dyes):

@@ -1,7 +1,8 @@
 """The package keeps to the part of Python that it is to be written in, as far as is checked here.
 
-Not checked: how dicts and lists of a file's top are used (L15), which errors are taken where (L19), what a loop
-changes of what it walks (L23), sets within expressions (L24), and L13, L18 and L28 but for single points of them.
+Where a rule allows a thing only with care, and the package has no use for it, it is not allowed here at all: sets,
+errors that are taken, methods with two underscores but __init__. Of L13, L15, L18, L22, L23 and L28 single points
+alone are checked.
 """
 
 import ast
@@ -225,6 +226,47 @@ class Language(unittest.TestCase):
                 self.assertIsInstance(node.func, ast.Name, place)
                 for keyword in node.keywords:
                     self.assertIn(keyword.arg, KEYWORDS.get(node.func.id, ()), place)
+
+    def test_what_the_package_has_no_use_for(self):
+        for place, node in self.every((ast.Try, ast.Set)):
+            self.fail(place)
+        for place, node in self.every(ast.Name):
+            self.assertNotIn(node.id, ("set", "frozenset", "chr"), place)
+        for place, node in self.every(ast.FunctionDef):
+            self.assertTrue(node.name == "__init__" or not node.name.startswith("__"), place)
+
+    def test_classes_are_called_alone(self):
+        classes = {node.name for place, node in self.every(ast.ClassDef)}
+        for name, tree in trees():
+            called = {id(node.func) for node in ast.walk(tree) if isinstance(node, ast.Call)}
+            for node in ast.walk(tree):
+                if isinstance(node, ast.Name) and node.id in classes:
+                    self.assertIn(id(node), called, f"{name}:{node.lineno}")
+
+    def test_lists_and_dicts_of_a_files_top_are_only_read(self):
+        kept = {node.targets[0].id for name, tree in trees() for node in tree.body
+                if isinstance(node, ast.Assign) and isinstance(node.value, (ast.List, ast.Dict))}
+        for name, tree in trees():
+            read = set()
+            for node in ast.walk(tree):
+                if isinstance(node, ast.Subscript) and isinstance(node.ctx, ast.Load):
+                    read.add(id(node.value))
+                if isinstance(node, ast.Compare):
+                    read |= {id(value) for value in node.comparators}
+                if isinstance(node, (ast.For, ast.comprehension)):
+                    read.add(id(node.iter))
+            for node in ast.walk(tree):
+                if isinstance(node, ast.Name) and node.id in kept and isinstance(node.ctx, ast.Load):
+                    self.assertIn(id(node), read, f"{name}:{node.lineno}")
+
+    def test_no_loop_changes_what_it_walks(self):
+        for place, node in self.every(ast.For):
+            walked = {ast.unparse(part) for part in ast.walk(node.iter) if isinstance(part, (ast.Name, ast.Attribute))}
+            for inner in [part for row in node.body for part in ast.walk(row)]:
+                if isinstance(inner, ast.Call) and isinstance(inner.func, ast.Attribute):
+                    self.assertNotIn(ast.unparse(inner.func.value), walked, place)
+                if isinstance(inner, ast.Subscript) and isinstance(inner.ctx, ast.Store):
+                    self.assertNotIn(ast.unparse(inner.value), walked, place)
 
     def test_walks_are_not_kept(self):
         for name, tree in trees():

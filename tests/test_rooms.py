@@ -1,8 +1,6 @@
 import unittest
 
-from calling import TOP, begun, last
-from carpetworks.state import State
-from carpetworks.works import answer_call
+from calling import TOP, begun
 
 THREE_ROOMS = (("room", 5, 7), ("room", 6, 8), ("room", 9, 4))
 
@@ -78,16 +76,6 @@ class Doors(unittest.TestCase):
     def test_a_refused_side_leaves_the_room_as_it_was(self):
         told = begun(("room", 20, 30), ("side", 0, 0, 31), ("side", 0, 4, 4), ("turn", 0))
         self.assertEqual(told[1:], [[-22], [-22], [30]])
-
-    def test_what_the_room_holds(self):
-        state = State()
-        for number, given in ((0, [12, 3, 10]), (7, [20, 30]), (9, [0, 1, 2]), (10, [0, 3, 30]), (9, [0, 4, 20])):
-            answer_call(state, number, given)
-        room = state.rooms[0]
-        self.assertEqual((room.across, room.along, room.doors, room.sides), (20, 30, [(1, 2), (4, 20)], [(3, 30)]))
-        answer_call(state, 11, [0])
-        room = state.rooms[0]
-        self.assertEqual((room.across, room.along, room.doors, room.sides), (30, 20, [(3, 30)], [(1, 2), (4, 20)]))
 
 
 class Wide(unittest.TestCase):

@@ -1,60 +1,8 @@
-import itertools
 import random
 import unittest
 
-from calling import begun, last, run
-
-
-def clear_counts(across, doors, wide):
-    """How many strips there are by each first strip that is clear."""
-    found = []
-    for first in range(1, wide + 1):
-        seams = []
-        seam = first
-        while seam < across:
-            seams.append(seam)
-            seam += wide
-        if not any(low < seam < high for seam in seams for low, high in doors):
-            found.append(len(seams) + 1)
-    return found
-
-
-def cut(strips, repeat):
-    """Where the last strip ends; the roll is gone along a centimetre at a time."""
-    end = 0
-    for length, place in strips:
-        while end % repeat != place:
-            end += 1
-        end += length
-    return end
-
-
-def expected_turning(repeat, drop, wide, rooms):
-    """The answer to set_turn; a room is (across, along, doors, sides)."""
-    best = None
-    for chosen in range(2 ** len(rooms)):
-        strips = []
-        laid = True
-        for number, (across, along, doors, sides) in enumerate(rooms):
-            if chosen // 2 ** number % 2 == 1:
-                across, along, doors = along, across, sides
-            counts = clear_counts(across, doors, wide)
-            laid = laid and counts != []
-            strips += [(along, number * drop % repeat) for number in range(min(counts, default=0))]
-        if laid and len(strips) <= 6:
-            need = min(cut(order, repeat) for order in itertools.permutations(strips))
-            if best is None or need < best[0]:
-                best = [need, chosen]
-    return best if best is not None else [-33]
-
-
-def room_calls(rooms):
-    calls = []
-    for number, (across, along, doors, sides) in enumerate(rooms):
-        calls.append(("room", across, along))
-        calls += [("door", number, low, high) for low, high in doors]
-        calls += [("side", number, low, high) for low, high in sides]
-    return calls
+from calling import begun, last, room_calls, run
+from reckoning import expected_turning
 
 
 class AgainstAnotherReckoning(unittest.TestCase):
